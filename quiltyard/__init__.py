@@ -1,0 +1,1 @@
+"""Quiltyard: pictures that little tiles let by."""
