@@ -1,4 +1,8 @@
-"""Faults of a package file against the rules L1 to L28, as far as a reader of its tree can see them."""
+"""Faults of a package file against part of the language rules.
+
+Looked at are L2 to L8, L10, L12, L14, L15, L17, L20, L21, L24, L25 and L27, each in its plainest cases. Not looked
+at are L9, L11, L13, L16's circles, L18, L19, L22, L23, L26 and L28: these are still to be read by eye.
+"""
 
 import ast
 import re
