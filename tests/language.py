@@ -1,7 +1,7 @@
 """Faults of a package file against part of the language rules.
 
-Looked at are L2 to L8, L10, L12, L14, L15, L17, L20, L21, L24, L25 and L27, each in its plainest cases. Not looked
-at are L9, L11, L13, L16's circles, L18, L19, L22, L23, L26 and L28: these are still to be read by eye.
+Looked at are L2 to L8, L10, L12, L14 to L18, L20 to L27, each in its plainest cases. Not looked at are L9, L11, L13,
+L19 and L28, nor in L23 whether a loop changes what it walks: these are still to be read by eye.
 """
 
 import ast
@@ -20,10 +20,21 @@ BUILT_IN = set(
     "len range enumerate zip min max sum abs sorted reversed int str bool list tuple dict set frozenset isinstance "
     "ord repr any all divmod Exception ValueError TypeError KeyError IndexError LookupError ZeroDivisionError "
     "ArithmeticError OverflowError RuntimeError NotImplementedError AttributeError StopIteration".split())
+CALLED = BUILT_IN & set(
+    "len range enumerate zip min max sum abs sorted reversed set frozenset isinstance ord repr any all divmod".split())
 METHODS = set(
     "append clear copy count endswith extend find get index insert isalnum isalpha isdigit islower isspace isupper "
     "items join keys ljust lower lstrip partition pop remove replace reverse rfind rjust rpartition rsplit rstrip "
-    "setdefault split splitlines startswith strip update upper values zfill bit_length __init__".split())
+    "setdefault split splitlines startswith strip update upper values zfill bit_length".split())
+KEYWORDS = {"sorted": {"key", "reverse"}, "min": {"key", "default"}, "max": {"key", "default"}, "sum": {"start"},
+            "enumerate": {"start"}, "zip": {"strict"}}
+WALKED = {"zip", "enumerate", "reversed", "range"}
+WALKED_METHODS = {"items", "keys", "values"}
+WALKERS = {"list", "tuple", "dict", "sorted", "sum", "any", "all", "enumerate", "zip", "min", "max"}
+KINDS = (str, int, list, dict, set, bytes, tuple)
+TAKEN = {name for kind in KINDS for name in dir(kind)} - {"__init__"}
+OWN_METHODS = METHODS | {"add", "discard"}
+OWN_VALUES = set("count index title find get join lower upper split strip copy add".split())
 WORDS = re.compile(
     r"\b(type|typing|typing_extensions|enum|Enum|IntEnum|StrEnum|Flag|IntFlag|Generic|Protocol|ABC|ABCMeta|"
     r"namedtuple|NamedTuple|TypedDict|TYPE_CHECKING|abstractmethod)\b|dataclass|overload|contextmanager")
@@ -107,6 +118,10 @@ def statement_faults(node):
         found.append(f"L6 row {node.lineno}")
     if isinstance(node, ast.Try) and node.finalbody:
         found.append(f"L6 row {node.lineno}")
+    if isinstance(node, ast.FunctionDef):
+        # A text by itself is no call; the rules name it at a file's top alone.
+        plain = [part for part in ast.walk(node) if isinstance(part, ast.Expr)]
+        found += [f"L6 row {part.lineno}" for part in plain if not isinstance(part.value, ast.Call)]
     if isinstance(node, ast.ExceptHandler) and not node.type:
         found.append(f"L6 row {node.lineno}")
     if isinstance(node, ast.Call) and isinstance(node.func, ast.Name) and node.func.id in ("set", "frozenset"):
@@ -139,15 +154,106 @@ def name_faults(tree, values):
     for node in ast.walk(tree):
         if isinstance(node, ast.Name) and node.id not in names and node.id not in BUILT_IN:
             found.append(f"L8 {node.id}, row {node.lineno}")
-        if isinstance(node, ast.Attribute) and node.attr not in METHODS and node.attr not in values:
+        if isinstance(node, ast.Attribute) and node.attr not in METHODS | DUNDER | values:
             found.append(f"L25 {node.attr}, row {node.lineno}")
     return found
 
 
+def is_walked(node):
+    if not isinstance(node, ast.Call):
+        return False
+    if isinstance(node.func, ast.Name):
+        return node.func.id in WALKED
+    return isinstance(node.func, ast.Attribute) and node.func.attr in WALKED_METHODS
+
+
+def walkers_of(node):
+    """What is walked on the spot by this node."""
+    if isinstance(node, (ast.For, ast.comprehension)):
+        return [node.iter]
+    if isinstance(node, ast.Call) and isinstance(node.func, ast.Name) and node.func.id in WALKERS:
+        return node.args if node.func.id == "zip" else node.args[:1]
+    if isinstance(node, ast.Call) and isinstance(node.func, ast.Attribute) and node.func.attr == "join":
+        return node.args
+    return []
+
+
+def walk_faults(tree):
+    """L23: what is to be walked on the spot."""
+    fine = [id(part) for node in ast.walk(tree) for part in walkers_of(node)]
+    return [f"L23 row {node.lineno}" for node in ast.walk(tree) if is_walked(node) and id(node) not in fine]
+
+
+def call_faults(tree):
+    """L22: Python's own names as they are called."""
+    found = []
+    fine = []
+    for node in ast.walk(tree):
+        if isinstance(node, ast.Call):
+            fine.append(id(node.func))
+            called = getattr(node.func, "id", None)
+            fine += [id(word.value) for word in node.keywords if word.arg == "key"]
+            for word in node.keywords:
+                if called in BUILT_IN and word.arg not in KEYWORDS.get(called, ()):
+                    found.append(f"L22 row {node.lineno}")
+    for node in ast.walk(tree):
+        if isinstance(node, ast.Name) and node.id in CALLED and id(node) not in fine:
+            found.append(f"L22 {node.id}, row {node.lineno}")
+    return found
+
+
+def own_names(tree):
+    """The names of the methods that a file's classes have, and of the values that are given to objects."""
+    classes = [node for node in ast.walk(tree) if isinstance(node, ast.ClassDef)]
+    methods = [part.name for node in classes for part in node.body if isinstance(part, ast.FunctionDef)]
+    values = [node.attr for node in ast.walk(tree)
+              if isinstance(node, ast.Attribute) and isinstance(node.ctx, ast.Store)]
+    return set(methods) - DUNDER, set(values)
+
+
+def own_faults(methods, values):
+    """L18, L26, over the whole package."""
+    found = [f"L18 {name} is a method and a value" for name in sorted(methods & values)]
+    found += [f"L26 method {name}" for name in sorted(methods & TAKEN - OWN_METHODS)]
+    return found + [f"L26 value {name}" for name in sorted(values & TAKEN - OWN_VALUES)]
+
+
+def drawn_from(tree):
+    return [node.module for node in tree.body if isinstance(node, ast.ImportFrom)]
+
+
+def circle_faults(trees):
+    """L16: files, by their full names, that draw from one another in whatever many steps."""
+    found = []
+    for name in sorted(trees):
+        reached = set()
+        left = drawn_from(trees[name])
+        while left:
+            other = left.pop()
+            if other in trees and other not in reached:
+                reached.add(other)
+                left += drawn_from(trees[other])
+        if name in reached:
+            found.append(f"L16 {name} draws from itself")
+    return found
+
+
+def package_faults(texts, package):
+    """All faults of a package; texts are its files' by their full names."""
+    trees = {name: ast.parse(text) for name, text in texts.items()}
+    methods = set().union(*[own_names(tree)[0] for tree in trees.values()])
+    values = set().union(*[own_names(tree)[1] for tree in trees.values()])
+    found = own_faults(methods, values) + circle_faults(trees)
+    for name, text in texts.items():
+        found += [f"{name}: {fault}" for fault in faults_of(text, package, methods | values)]
+    return found
+
+
 def faults_of(text, package, values):
-    """All faults of a file; values are the names of the values that objects of the package have."""
+    """A file's own faults; values are the names of the methods and values that the package's objects have."""
     tree = ast.parse(text)
     found = text_faults(text) + top_faults(tree, package) + name_faults(tree, values)
+    found += walk_faults(tree) + call_faults(tree)
     for node in ast.walk(tree):
         kind = node.__class__.__name__
         if kind not in NODES:

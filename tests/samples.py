@@ -1,5 +1,7 @@
 """Inputs that several tests share, all of them made by plain rules."""
 
+import itertools
+
 GOOD = ["abc", "dcb"]
 
 
@@ -63,3 +65,53 @@ def bad_systems():
     found.append(("a tile again at the end", ("ab", tiles + tiles[:1])))
     found.append(("tiles that fall", ("ab", tiles[::-1])))
     return found
+
+
+def tiles_by_place(rows):
+    """The tiles of rows with the border, by the place of the right lower field."""
+    high = len(rows)
+    wide = len(rows[0])
+
+    def field(r, c):
+        return rows[r][c] if 0 <= r < high and 0 <= c < wide else -1
+
+    return {(r, c): (field(r - 1, c - 1), field(r - 1, c), field(r, c - 1), field(r, c))
+            for r in range(high + 1) for c in range(wide + 1)}
+
+
+def every_tile(marks):
+    return sorted(itertools.product(range(-1, marks), repeat=4))
+
+
+def system_of_rows(letters, *grids):
+    return (letters, sorted({tile for rows in grids for tile in tiles_by_place(rows).values()}))
+
+
+def some_tiles(marks, share, turn, edge_share=100):
+    """Of a hundred tiles about a share, as if by chance but the same each time; of those with a border another."""
+    found = []
+    state = turn * 7919 + marks
+    for tile in every_tile(marks):
+        state = (state * 1103515245 + 12345) % 2 ** 31
+        if state // 2 ** 12 % 100 < (edge_share if -1 in tile else share):
+            found.append(tile)
+    return found
+
+
+def system_of_phases(letters, phases, follows, first, last):
+    """Marks of which a column has those of one phase alone; which phases may follow, be first, be last."""
+    pairs = follows + [(-1, phase) for phase in first] + [(phase, -1) for phase in last]
+    phase_of = dict(enumerate(phases))
+    phase_of[-1] = None
+    tiles = []
+    for tile in every_tile(len(letters)):
+        left = {phase_of[tile[0]], phase_of[tile[2]]} - {None} or {-1}
+        right = {phase_of[tile[1]], phase_of[tile[3]]} - {None} or {-1}
+        if len(left) == 1 and len(right) == 1 and (left.pop(), right.pop()) in pairs:
+            tiles.append(tile)
+    return (letters, tiles)
+
+
+def system_with_full_column():
+    """Lets by the pictures of a and b in which some column is of a alone; such columns are chosen by marks 2."""
+    return system_of_phases("abaab", [0, 0, 1, 2, 2], [(0, 0), (0, 1), (1, 2), (2, 2)], [0, 1], [1, 2])

@@ -4,28 +4,10 @@ import itertools
 import unittest
 
 from quiltyard.errors import BadPicture, BadSystem
+from quiltyard.letting import lets
 from quiltyard.systems import look_system, of_pictures, shows
-from samples import GOOD, all_sizes, bad_pictures, bad_systems, picture_of_size
-
-
-def tiles_by_place(rows):
-    """The tiles of rows with the border, by the place of the right lower field."""
-    high = len(rows)
-    wide = len(rows[0])
-
-    def field(r, c):
-        return rows[r][c] if 0 <= r < high and 0 <= c < wide else -1
-
-    return {(r, c): (field(r - 1, c - 1), field(r - 1, c), field(r, c - 1), field(r, c))
-            for r in range(high + 1) for c in range(wide + 1)}
-
-
-def every_tile(marks):
-    return sorted(itertools.product(range(-1, marks), repeat=4))
-
-
-def system_of_rows(letters, *grids):
-    return (letters, sorted({tile for rows in grids for tile in tiles_by_place(rows).values()}))
+from samples import (GOOD, all_sizes, bad_pictures, bad_systems, every_tile, picture_of_size, system_of_rows,
+                     tiles_by_place)
 
 
 class LookSystem(unittest.TestCase):
@@ -204,7 +186,7 @@ class Shows(unittest.TestCase):
 
 
 class OfPictures(unittest.TestCase):
-    """[2.3], its second half."""
+    """[2.3], of pictures."""
 
     def marks(self, picture):
         return [["abcd".index(letter) for letter in row] for row in picture]
@@ -241,12 +223,23 @@ class OfPictures(unittest.TestCase):
         for order in itertools.permutations(pictures):
             self.assertEqual(of_pictures(list(order)), of_pictures(pictures))
 
-    def test_no_tile_can_be_spared(self):
-        pictures = [["ab", "cd"], ["dab"]]
+    def assert_no_tile_to_spare(self, pictures):
         letters, tiles = of_pictures(pictures)
+        for picture in pictures:
+            self.assertEqual(lets((letters, tiles), picture), self.marks(picture))
         for missing in tiles:
             left = (letters, [tile for tile in tiles if tile != missing])
+            self.assertIn(None, [lets(left, picture) for picture in pictures])
             self.assertIn(False, [shows(left, picture, self.marks(picture)) for picture in pictures])
+
+    def test_each_is_let_by_and_no_tile_can_be_spared(self):
+        self.assert_no_tile_to_spare([["ab", "cd"], ["dab"]])
+        self.assert_no_tile_to_spare([["a"], ["b"], ["c"], ["d"]])
+        self.assert_no_tile_to_spare([["aaaa", "aaaa"], ["a", "a", "a"], ["aba"]])
+        self.assert_no_tile_to_spare([picture_of_size(4, 12), picture_of_size(3, 5, 2)])
+        for high, wide in all_sizes():
+            if high * wide <= 12:
+                self.assert_no_tile_to_spare([picture_of_size(high, wide)])
 
     def test_refused(self):
         for name, picture in bad_pictures():
