@@ -1,14 +1,10 @@
 """The pictures of one size that a system lets by, told by numbers in their order."""
 
 from quiltyard.errors import BadSize
-from quiltyard.pictures import LETTERS, MOST_COLUMNS, MOST_ROWS, columns_of
+from quiltyard.pictures import LETTERS, columns_of
+from quiltyard.sizes import look_size
 from quiltyard.systems import look_system
-from quiltyard.walking import FieldSets, columns_that_end, walk_right
-
-
-def look_size(high, wide):
-    if not 1 <= high <= MOST_ROWS or not 1 <= wide <= MOST_COLUMNS:
-        raise BadSize("a size is 1 to 4 high and 1 to 12 wide")
+from quiltyard.walking import FieldSets, any_letters, columns_that_end, walk_right
 
 
 class Ways:
@@ -21,7 +17,7 @@ class Ways:
         self.fields = high * wide
         self.sets = FieldSets()
         self.walk = walk_right(self.sets, system, high)
-        self.ending = columns_that_end(self.sets, system, high, [[LETTERS] * high] * wide)
+        self.ending = columns_that_end(self.sets, system, high, [any_letters(high)] * wide)
         self.steps_known = {}
 
     def beginning(self):

@@ -34,6 +34,11 @@ def columns_of(picture):
     return [column_at(picture, place) for place in range(len(picture[0]))]
 
 
+def rows_of(columns):
+    # A column's place among the columns is that of its letter in each row.
+    return [column_at(columns, row) for row in range(len(columns[0]))]
+
+
 def mirrored(picture):
     look_picture(picture)
     return [row[::-1] for row in picture]

@@ -8,8 +8,8 @@ MOST_MARKS = 16
 TILE_FIELDS = 4
 
 
-def is_tile(fields, marks):
-    return len(fields) == TILE_FIELDS and all([BORDER <= field < marks for field in fields])
+def are_fields(fields, many, marks):
+    return len(fields) == many and all([BORDER <= field < marks for field in fields])
 
 
 def rises(tiles):
@@ -23,7 +23,7 @@ def is_system(system):
     tiles = system[1]
     if len(letters) > MOST_MARKS or not are_letters(letters):
         return False
-    return all([is_tile(tile, len(letters)) for tile in tiles]) and rises(tiles)
+    return all([are_fields(tile, TILE_FIELDS, len(letters)) for tile in tiles]) and rises(tiles)
 
 
 def look_system(system):
@@ -43,6 +43,10 @@ def tiles_of(rows):
         for place in range(len(upper) - 1):
             tiles.append((upper[place], upper[place + 1], lower[place], lower[place + 1]))
     return tiles
+
+
+def mirrored_tiles(tiles):
+    return [(right, left, low_right, low_left) for left, right, low_left, low_right in tiles]
 
 
 def stands_for(letters, mark, letter):

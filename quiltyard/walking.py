@@ -4,11 +4,8 @@ While a column is laid from the top, a front is what its next field may depend o
 the field of the column ahead that is left of the lowest of these, and those of the column ahead below it.
 """
 
-from quiltyard.systems import BORDER
-
-
-def mirrored_tiles(tiles):
-    return [(right, left, low_right, low_left) for left, right, low_left, low_right in tiles]
+from quiltyard.pictures import LETTERS
+from quiltyard.systems import BORDER, mirrored_tiles
 
 
 def bit_of(field):
@@ -18,6 +15,10 @@ def bit_of(field):
 
 def least_field(bits):
     return (bits & -bits).bit_length() - 2
+
+
+def fields_in(bits):
+    return [field for field in range(BORDER, bits.bit_length() - 1) if bits & bit_of(field)]
 
 
 class FieldSets:
@@ -50,6 +51,24 @@ class FieldSets:
         for depth in range(1, len(fields)):
             number = self.number_for(depth, [(fields[-1 - depth], number)])
         return number
+
+    def of_all(self, depth, tuples):
+        # The tuples may come in any turn, and more than once.
+        rests = {}
+        for fields in tuples:
+            rests.setdefault(fields[0], []).append(fields[1:])
+        if depth == 0:
+            return sum([bit_of(field) for field in rests])
+        return self.number_for(depth, [(field, self.of_all(depth - 1, rests[field])) for field in sorted(rests)])
+
+    def tuples_in(self, depth, number):
+        # Rising, as first fields and what stands behind them do.
+        if depth == 0:
+            return [(field,) for field in fields_in(number)]
+        found = []
+        for field, part in self.branches[number]:
+            found.extend([(field,) + rest for rest in self.tuples_in(depth - 1, part)])
+        return found
 
     def in_either(self, depth, one, other):
         if one == 0 or other == 0 or one == other:
@@ -188,6 +207,10 @@ def walk_right(sets, system, high):
 
 def walk_left(sets, system, high):
     return Walk(sets, system[0], mirrored_tiles(system[1]), high)
+
+
+def any_letters(high):
+    return [LETTERS] * high
 
 
 def columns_that_end(sets, system, high, columns):

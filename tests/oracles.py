@@ -60,7 +60,7 @@ class ByColumns:
 
     def count(self, wide):
         """How many pictures of a width are let by."""
-        texts = ["".join(text) for text in itertools.product(sorted(set(self.letters)), repeat=self.high)]
+        texts = column_texts(self)
         counts = {(self.edge(),): 1}
         for place in range(wide):
             behind = {}
@@ -87,3 +87,78 @@ class ByColumns:
             if found[-1] is None:
                 return None
         return [list(row) for row in zip(*found[1:])]
+
+    def may_end(self, columns):
+        return any(self.fits(column, self.edge()) for column in columns)
+
+    def words(self, wide):
+        """All pictures of a width that are let by, as tuples of their columns."""
+        texts = column_texts(self)
+        found = [((), (self.edge(),))]
+        for place in range(wide):
+            steps = [(word + (text,), self.behind(columns, text)) for word, columns in found for text in texts]
+            found = [(word, columns) for word, columns in steps if columns]
+        return {word for word, columns in found if self.may_end(columns)}
+
+    def all_columns(self):
+        return list(itertools.product(range(len(self.letters)), repeat=self.high))
+
+
+def column_texts(*systems):
+    """All columns of the letters that the systems, each as ByColumns, have marks for."""
+    letters = sorted(set("".join(system.letters for system in systems)))
+    return ["".join(text) for text in itertools.product(letters, repeat=systems[0].high)]
+
+
+def rows_of_word(word):
+    return ["".join(row) for row in zip(*word)]
+
+
+def pairs_reached(one, other, begun=None):
+    """All pairs that two systems, each as ByColumns, come to from a pair, whether they end alike or not."""
+    begun = begun or ((one.edge(),), (other.edge(),))
+    texts = column_texts(one, other)
+    found = {begun}
+    left = [begun]
+    while left:
+        pair = left.pop()
+        for text in texts:
+            step = (one.behind(pair[0], text), other.behind(pair[1], text))
+            if step != ((), ()) and step not in found:
+                found.add(step)
+                left.append(step)
+    return found
+
+
+def are_shown_alike(one, other, pairs):
+    """[4.1], word by word."""
+    if ((one.edge(),), (other.edge(),)) not in pairs:
+        return False
+    texts = column_texts(one, other)
+    for left, right in pairs:
+        for text in texts:
+            step = (one.behind(left, text), other.behind(right, text))
+            if step != ((), ()):
+                if step not in pairs or one.may_end(step[0]) != other.may_end(step[1]):
+                    return False
+    return True
+
+
+def keeps_rule(rule, word):
+    return all(letter in text for column in word for letter, text in zip(column, rule))
+
+
+def is_rule_shown(plain, rule, paper):
+    """[6.2], word by word."""
+    first, second = paper
+    columns = plain.all_columns()
+    if [column for column in first + second if column not in columns]:
+        return False
+    behind = [other for other in columns if any(plain.fits(column, other) for column in [plain.edge()] + first)]
+    if [column for column in behind if column not in first]:
+        return False
+    behind = [other for other in columns if any(plain.fits(column, other) for column in second)]
+    if [column for column in behind if column not in second] or plain.may_end(second):
+        return False
+    texts = ["".join(plain.letters[mark] for mark in column) for column in first if column not in second]
+    return keeps_rule(rule, texts)

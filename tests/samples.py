@@ -115,3 +115,48 @@ def system_of_phases(letters, phases, follows, first, last):
 def system_with_full_column():
     """Lets by the pictures of a and b in which some column is of a alone; such columns are chosen by marks 2."""
     return system_of_phases("abaab", [0, 0, 1, 2, 2], [(0, 0), (0, 1), (1, 2), (2, 2)], [0, 1], [1, 2])
+
+
+def system_of_counter(base, letters):
+    """Columns that count up in digits from all 0 to all the last one: its pictures are just base ** height wide."""
+    last = base - 1
+    tiles = {(-1, -1, -1, 0), (-1, 0, -1, 0), (-1, 0, -1, -1), (-1, -1, last, -1), (last, -1, last, -1),
+             (last, -1, -1, -1)}
+    stays = [(digit, digit) for digit in range(base)]
+    rises = [(digit, digit + 1) for digit in range(last)]
+    over = rises + [(last, 0)]
+    tiles |= {(-1, -1, left, right) for left, right in stays + rises}
+    tiles |= {(left, right, -1, -1) for left, right in over}
+    tiles |= {(left, right, low, low_right) for left, right in stays for low, low_right in stays + rises}
+    tiles |= {(left, right, last, 0) for left, right in over}
+    return (letters, sorted(tiles))
+
+
+def system_of_heights(letters, phases, follows, first, last):
+    """Like system_of_phases, but of rows from the top in the place of columns from the left."""
+    letters, tiles = system_of_phases(letters, phases, follows, first, last)
+    return (letters, sorted((left, low_left, right, low_right) for left, right, low_left, low_right in tiles))
+
+
+def with_order(system, order):
+    """The same system with its marks in another turn: mark order[k] is now k."""
+    letters, tiles = system
+    number = {mark: k for k, mark in enumerate(order)}
+    number[-1] = -1
+    return ("".join(letters[mark] for mark in order), sorted(tuple(number[field] for field in tile) for tile in tiles))
+
+
+def with_mark_twice(system, mark):
+    """The same system with one more mark, at the end, that may stand wherever this one may."""
+    letters, tiles = system
+    choices = {field: [field] for field in range(-1, len(letters))}
+    choices[mark] = [mark, len(letters)]
+    return (letters + letters[mark],
+            sorted({more for tile in tiles for more in itertools.product(*[choices[field] for field in tile])}))
+
+
+def with_tile_changed(system, turn):
+    """The system with one tile more, or one fewer."""
+    letters, tiles = system
+    whole = every_tile(len(letters))
+    return (letters, sorted(set(tiles) ^ {whole[turn * 37 % len(whole)]}))

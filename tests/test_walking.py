@@ -38,6 +38,9 @@ class Sets(unittest.TestCase):
             for one in samples_of(depth):
                 number = number_of_tuples(sets, one)
                 self.assertEqual(tuples_of_number(sets, depth, number), sorted(one))
+                self.assertEqual(sets.tuples_in(depth, number), sorted(one))
+                for tuples in [sorted(one), sorted(one)[::-1], sorted(one) * 2]:
+                    self.assertEqual(sets.of_all(depth, tuples), number)
                 self.assertEqual(number == 0, one == set())
                 if one:
                     self.assertEqual(sets.least(depth, number), min(one))
