@@ -3,7 +3,7 @@
 from quiltyard.errors import BadSystem
 from quiltyard.systems import BORDER, MOST_MARKS, look_system, mirrored_tiles
 
-EDGE = (BORDER, BORDER)
+EDGE = (-1, -1)
 
 
 def look_together(marks):
@@ -88,7 +88,7 @@ def right_of(tile):
 
 
 def is_seam(left, right):
-    # A border above or beneath runs on through both.
+    # A border runs on through both; else a tile of borders alone would let the other's left edge stand by itself.
     return all([(one == BORDER) == (other == BORDER) for one, other in zip(left, right)])
 
 

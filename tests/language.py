@@ -52,9 +52,32 @@ def text_faults(text):
     return found + [f"L17 word {word.group()}" for word in WORDS.finditer(text)]
 
 
+def is_plain(node, functions):
+    """Whether a value at a file's top is written out."""
+    if isinstance(node, (ast.List, ast.Tuple)):
+        return all(is_plain(part, functions) for part in node.elts)
+    if isinstance(node, ast.Dict):
+        return all(is_plain(part, functions) for part in node.keys + node.values)
+    if isinstance(node, ast.UnaryOp):
+        return isinstance(node.op, ast.USub) and is_plain(node.operand, functions)
+    return isinstance(node, ast.Constant) or (isinstance(node, ast.Name) and node.id in functions)
+
+
+def value_faults(tree):
+    """L3: plain values, and functions defined above."""
+    found = []
+    functions = []
+    for node in tree.body:
+        if isinstance(node, ast.FunctionDef):
+            functions.append(node.name)
+        elif isinstance(node, ast.Assign) and not is_plain(node.value, functions):
+            found.append(f"L3 row {node.lineno}")
+    return found
+
+
 def top_faults(tree, package):
     """L2, L3, L15, L16."""
-    found = []
+    found = value_faults(tree)
     bound = []
     for k, node in enumerate(tree.body):
         if isinstance(node, ast.ImportFrom):

@@ -128,9 +128,9 @@ class Joined(unittest.TestCase):
         systems = list(some_systems())
         for turn, one in enumerate(systems):
             other = systems[(turn * 5 + 2) % len(systems)]
-            sizes = SMALL[turn % 4::4] if turn % 7 else SMALL
+            sizes = SMALL[turn % 6::6] if turn != 7 else SMALL
             found = [least + more for least, more in zip(found, self.assert_joined(one, other, sizes))]
-        self.assertGreater(min(found), 300)
+        self.assertGreater(min(found), 150)
 
     def test_a_system_with_itself(self):
         for one in list(some_systems())[::4]:
@@ -153,7 +153,7 @@ class Joined(unittest.TestCase):
     def test_mirrored_and_stood_of_all_small_pictures(self):
         for system in some_systems():
             self.assert_turned(system, [(1, 1), (1, 2), (1, 4), (2, 1), (2, 2), (2, 3), (3, 2), (4, 1), (3, 1)])
-        for system in list(some_systems())[::5]:
+        for system in list(some_systems())[::10]:
             self.assert_turned(system, [(2, 4), (4, 2), (3, 3)])
 
     def test_systems_that_let_nothing_by(self):

@@ -11,6 +11,9 @@ OUTSIDE = [
     "from . import errors\n",
     "print(1)\n",
     "A = 1\nA = 2\n",
+    "A = 1 + 1\n",
+    "from quiltyard.other import B\n\nA = (B, B)\n",
+    "A = [f]\n\n\ndef f(x):\n    return x\n",
     "def f(*xs):\n    return xs\n",
     "def f(x: int):\n    return x\n",
     "def f(x):\n    return x / 2\n",
@@ -49,6 +52,7 @@ OUTSIDE = [
 ]
 
 WITHIN = [
+    "A = -1\nB = (1, 'a')\n\n\ndef f(x):\n    return x\n\n\nC = {'f': f, 'g': None}\n",
     "def f(x):\n    return [y for y in range(x)]\n",
     "def f(x):\n    return sorted(x.items(), key=len)\n",
     "def f(x):\n    for k, y in enumerate(zip(x, range(3)), start=1):\n        x = x + [k, y]\n    return x\n",

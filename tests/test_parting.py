@@ -149,8 +149,8 @@ class ToldHeight(unittest.TestCase):
                         self.assertEqual(unlike, set())
 
     def test_four_letters(self):
-        for turn in range(6):
-            one = ("dbca", some_tiles(4, 40 + 10 * turn, turn + 3))
+        for turn in range(3):
+            one = ("dbca", some_tiles(4, 40 + 20 * turn, turn + 3))
             for high in (1, 2):
                 self.assert_told(one, with_order(one, [2, 0, 3, 1]), high)
                 self.assert_told(one, with_tile_changed(one, turn), high)
@@ -247,7 +247,7 @@ class ShowsAlike(unittest.TestCase):
             for other in other_tellings(system, turn):
                 for high in range(1, 5):
                     pairs = told_height(system, other, high)[1]
-                    if (turn + high) % 3 == 0 and len(pairs) < 30:
+                    if (turn + high) % 5 == 0 and len(pairs) < 25:
                         yield system, other, high, pairs
 
     def changed(self, half, marks, high):
@@ -405,10 +405,10 @@ class Parted(unittest.TestCase):
 
     def test_like_told_height_at_each(self):
         found = []
-        for one, other in list(some_pairs())[::2]:
+        for one, other in list(some_pairs())[::3]:
             told = [told_height(one, other, high) for high in range(1, 5)]
             pictures = [value for kind, value in told if kind == "unlike"]
-            for most in range(-1, 7):
+            for most in range(7):
                 due = [picture for picture in pictures if len(picture) <= most]
                 if due:
                     self.assertEqual(parted(one, other, most), due[0])
